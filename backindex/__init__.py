@@ -1,0 +1,1 @@
+"""Backindex: a text kept by the order of its endings."""
