@@ -1,8 +1,7 @@
 import unittest
 
 from backindex import errors
-
-NAMES = ("NoOrder", "NoPlace", "NoGap", "NoText", "NoTimes", "Empty", "TooLong", "NoName", "NoRow")
+from helper import NAMES
 
 
 class ErrorClasses(unittest.TestCase):

@@ -4,13 +4,7 @@ from itertools import permutations, product
 from backindex import errors
 from backindex.order import order_of, rows_of
 from backindex.texts import comes_before
-
-SIGNS = [chr(code) for code in range(ord(" "), ord("~") + 1) if chr(code) != "%"]
-LONG = "".join(SIGNS[(7 * at + at * at // 3) % len(SIGNS)] for at in range(300))
-OTHERS = tuple(
-    getattr(errors, name)
-    for name in ("NoPlace", "NoGap", "NoText", "NoTimes", "Empty", "TooLong", "NoName", "NoRow")
-)
+from helper import LONG, SHORT_ROWS, SIGNS, assert_refused
 
 
 class OrderOf(unittest.TestCase):
@@ -38,7 +32,7 @@ class OrderOf(unittest.TestCase):
                 self.assertEqual(order_of(sign * size), list(range(size, -1, -1)))
 
     def test_a_short_row_told_over_again(self):
-        for row in ("ab", "ba", "aab", "abc", "cab", " ~", "~ ", "abaab"):
+        for row in SHORT_ROWS:
             for times in (1, 2, 3, 10, 300 // len(row)):
                 self.check(row * times)
 
@@ -82,15 +76,7 @@ class OrderOf(unittest.TestCase):
 class RowsOf(unittest.TestCase):
     def assert_refused(self, order):
         handed = list(order)
-        for taker in (errors.NoOrder, errors.BackError, ValueError):
-            try:
-                told = rows_of(handed)
-            except OTHERS:
-                self.fail(f"another refusal: {order}")
-            except taker as taken:
-                self.assertIs(type(taken), errors.NoOrder)
-            else:
-                self.fail(f"not refused: {order}, told {told}")
+        assert_refused(self, "NoOrder", rows_of, handed)
         self.assertEqual(handed, order)
 
     def test_told_rows(self):

@@ -1,14 +1,7 @@
 import unittest
-from itertools import product
 
 from backindex.texts import common_size, comes_before, stands_at
-
-SIGNS = [chr(code) for code in range(ord(" "), ord("~") + 1) if chr(code) != "%"]
-LONG = "".join(SIGNS[(7 * at + at * at // 3) % len(SIGNS)] for at in range(300))
-
-
-def all_texts(signs, most):
-    return ["".join(row) for size in range(most + 1) for row in product(signs, repeat=size)]
+from helper import LONG, SIGNS, all_texts, looked_stands
 
 
 def looked_through_size(one, other):
@@ -25,12 +18,6 @@ def looked_through_before(one, other):
         if left != right:
             return SIGNS.index(left) < SIGNS.index(right)
     return len(one) < len(other)
-
-
-def looked_through_stands(text, piece, place):
-    if len(piece) > len(text) - place:
-        return False
-    return all(text[place + at] == piece[at] for at in range(len(piece)))
 
 
 class ComesBefore(unittest.TestCase):
@@ -147,7 +134,7 @@ class StandsAt(unittest.TestCase):
         for text in all_texts("a ", 4):
             for piece in all_texts("a ", 3):
                 for place in range(len(text) + 1):
-                    asked = looked_through_stands(text, piece, place)
+                    asked = looked_stands(text, piece, place)
                     self.assertIs(stands_at(text, piece, place), asked, (text, piece, place))
 
     def test_a_text_of_three_hundred_signs(self):
