@@ -43,6 +43,10 @@ class Letters:
     def row_with(self, sign, row):
         return self.first(sign) + self.before(sign, row)
 
+    # Of the rows of a piece, as a pair (low, high), those of the piece with the sign put ahead of it.
+    def rows_with(self, sign, rows):
+        return (self.row_with(sign, rows[0]), self.row_with(sign, rows[1]))
+
     def back(self, row):
         sign = self.letter(row)
         if sign is None:

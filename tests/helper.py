@@ -67,3 +67,14 @@ def looked_places(text, piece):
 def pairs_of(signs, most):
     """Each short text of these signs, with every home that it can have."""
     return [(letters, home) for letters in all_texts(signs, most) for home in range(len(letters) + 1)]
+
+
+def looked_rows(text, piece):
+    less = [place for place in range(len(text) + 1) if sort_key(text[place:]) < sort_key(piece)]
+    return len(less), len(less) + len(looked_places(text, piece))
+
+
+def pieces_of(text):
+    """Every unlike piece that stands in the text."""
+    ends = range(len(text) + 1)
+    return {text[start:end] for start in ends for end in ends if start <= end}
