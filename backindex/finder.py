@@ -2,15 +2,14 @@
 
 from backindex.checks import check_gap, check_place
 from backindex.errors import NoPlace
-from backindex.letters import Letters, last_letters
+from backindex.letters import letters_of
 from backindex.order import order_of
 
 
 class Finder:
     def __init__(self, text, gap=4):
         check_gap(gap)
-        pair = last_letters(text)
-        self.held = Letters(pair[0], pair[1])
+        self.held = letters_of(text)
         self.gap = gap
         self.known = {}
         for row, place in enumerate(order_of(text)):

@@ -58,3 +58,8 @@ class Letters:
         if row == 0:
             return None
         return self.forths[row]
+
+
+def letters_of(text):
+    pair = last_letters(text)
+    return Letters(pair[0], pair[1])

@@ -26,7 +26,8 @@ class Rows(unittest.TestCase):
         finder = Finder("banana")
         for piece, rows in (
             ("a", (1, 4)), ("ana", (2, 4)), ("banana", (4, 5)), ("n", (5, 7)), ("", (0, 7)), (" ", (1, 1)),
-            ("z", (7, 7)), ("bananas", (5, 5)), ("ab", (2, 2)), ("m", (5, 5)), ("ann", (4, 4)), ("aaa", (2, 2)), ("nb", (7, 7)),
+            ("z", (7, 7)), ("bananas", (5, 5)), ("ab", (2, 2)), ("m", (5, 5)), ("ann", (4, 4)),
+            ("aaa", (2, 2)), ("nb", (7, 7)),
         ):
             self.assertEqual(finder.rows(piece), rows, piece)
 
